@@ -1,0 +1,1 @@
+"""Rules over few values, first solutions, least cores, and papers that a judge takes."""

@@ -1,0 +1,41 @@
+"""Values of wrong kinds, ways to put them in the place of parts of a right value, and lists to compare with."""
+
+from itertools import product
+
+
+class Thorny:
+    """An object that raises an error at nearly everything that is done with it."""
+
+    def _refuse(self, *rest):
+        raise RuntimeError("a value of another kind was used")
+
+    __eq__ = __ne__ = __lt__ = __le__ = __gt__ = __ge__ = _refuse
+    __hash__ = __len__ = __iter__ = __bool__ = __contains__ = __getitem__ = __index__ = _refuse
+
+
+def strange_values():
+    """Values that are right nowhere in a space, an order, a rule or an assignment, at whatever depth."""
+    return [
+        None, True, False, 0.0, 1.0, 2000, -2000, 10 ** 30, 1j, "", " ", "?", "Z", "\u00e9", "in ", b"a", b"",
+        [], [0], ["a"], {}, {"a": 1}, set(), {0}, frozenset((0,)), range(2), iter(()), object(), Thorny(), len,
+        (None,), (True,), (False,), ((),), (((),),), ("",), (0.0,), ([],), (Thorny(),), ("a", 1), (Thorny(), Thorny()),
+    ]
+
+
+def with_parts_replaced(value, others=()):
+    """Copies of nested tuples, one part of each, at any depth, replaced by a strange value or one of the others."""
+    yield from strange_values()
+    yield from others
+    yield (value,)
+    yield [value]
+    if isinstance(value, tuple):
+        yield list(value)
+        yield dict(enumerate(value))
+        for at, part in enumerate(value):
+            for other in with_parts_replaced(part, others):
+                yield value[:at] + (other,) + value[at + 1:]
+
+
+def every_assignment(space):
+    """All assignments of a space, ascending."""
+    return list(product(*[values for _, values in space.variables]))

@@ -1,0 +1,183 @@
+"""Point 2 and the interface: arguments stay as they are, lists are new, names stand where the document lists them."""
+
+import inspect
+import os
+import re
+import unittest
+
+import clashproved
+from clashproved import errors, rules, spaces
+from clashproved.errors import BadOrder, BadRule, BadSpace, NoSuchName
+from clashproved.rules import check_rule, names_of, satisfies, worth_of
+from clashproved.spaces import Space, all_assignments, check_order, is_before, ordered_values, whole_order
+
+VARIABLES = (("a", (0, 1)), ("b", (2, 5)))
+ORDER = (("b", "down"),)
+SUM = ("sum", ((2, "a"), (-1, "b")), "<=", -3)
+CALLS = [
+    (check_order, (ORDER,)),
+    (whole_order, (ORDER,)),
+    (is_before, (ORDER, (0, 2), (0, 5))),
+    (ordered_values, ("b", "down")),
+    (all_assignments, (ORDER,)),
+    (check_rule, (SUM,)),
+    (names_of, (SUM,)),
+    (satisfies, (SUM, (1, 5))),
+    (worth_of, (((2, "a"), (-1, "b")), (1, 5))),
+    (Space.place_of, ("b",)),
+    (Space.values_of, ("b",)),
+    (Space.is_assignment, ((0, 5),)),
+    (Space.__len__, ()),
+]
+PARAMETERS = {
+    spaces.Space: ["variables"],
+    spaces.Space.place_of: ["self", "name"],
+    spaces.Space.values_of: ["self", "name"],
+    spaces.Space.is_assignment: ["self", "value"],
+    spaces.check_order: ["space", "order"],
+    spaces.whole_order: ["space", "order"],
+    spaces.is_before: ["space", "order", "first", "second"],
+    spaces.ordered_values: ["space", "name", "direction"],
+    spaces.all_assignments: ["space", "order"],
+    rules.check_rule: ["space", "rule"],
+    rules.names_of: ["space", "rule"],
+    rules.satisfies: ["space", "rule", "assignment"],
+    rules.worth_of: ["space", "terms", "assignment"],
+    errors.NoSuchRule: ["number"],
+}
+LISTED = {
+    errors: [
+        "ClashError", "NoSuchRule", "BadSpace", "BadOrder", "BadRule", "BadTerms", "NoSuchName", "NothingPushed",
+        "TooMany",
+    ],
+    spaces: ["Space", "check_order", "whole_order", "is_before", "ordered_values", "all_assignments"],
+    rules: ["check_rule", "names_of", "satisfies", "worth_of"],
+}
+
+
+class Arguments(unittest.TestCase):
+    def test_no_call_changes_the_space_or_another_argument(self):
+        for function, arguments in CALLS:
+            with self.subTest(function=function):
+                space, kept = Space(VARIABLES), repr(arguments)
+                function(space, *arguments)
+                self.assertEqual(repr(arguments), kept)
+                self.assert_untouched(space)
+
+    def assert_untouched(self, space):
+        self.assertEqual(vars(space), vars(Space(VARIABLES)))
+        self.assertEqual(space.variables, (("a", (0, 1)), ("b", (2, 5))))
+        self.assertEqual(space.names, ("a", "b"))
+
+    def test_a_second_call_tells_the_same(self):
+        space = Space(VARIABLES)
+        for function, arguments in CALLS:
+            first = function(space, *arguments)
+            for other, others in CALLS:
+                other(space, *others)
+            self.assertEqual(function(space, *arguments), first, function)
+
+    def test_wrong_values_that_can_be_changed_stay_as_they_are(self):
+        space = Space(VARIABLES)
+        cases = [
+            (BadSpace, Space, [("b", [1, 0]), ("a", {1: 0})]),
+            (BadOrder, lambda value: check_order(space, value), [["b", "down"], ("a", "up")]),
+            (BadOrder, lambda value: all_assignments(space, value), (["b", "down"], {"a": "up"})),
+            (BadRule, lambda value: check_rule(space, value), ["sum", [(1, "b"), (2, "a")], "=", 0]),
+            (BadRule, lambda value: check_rule(space, value), ("or", [("b", [5, 2]), ("a", {1, 0})])),
+            (NoSuchName, space.place_of, ["b", "a"]),
+            (NoSuchName, space.values_of, {"b": "a"}),
+        ]
+        for error, function, value in cases:
+            kept = repr(value)
+            with self.assertRaises(error):
+                function(value)
+            self.assertEqual(repr(value), kept)
+        value = [5, [0, {2: 1}]]
+        self.assertIs(space.is_assignment(value), False)
+        self.assertEqual(value, [5, [0, {2: 1}]])
+        self.assert_untouched(space)
+
+    def test_a_call_that_raises_an_error_changes_nothing(self):
+        space = Space(VARIABLES)
+        for error, function, value in (
+            (NoSuchName, space.place_of, "c"), (NoSuchName, space.values_of, "c"),
+            (BadOrder, lambda value: check_order(space, value), (("c", "up"),)),
+            (BadOrder, lambda value: all_assignments(space, value), (("a", "up"), ("a", "up"))),
+            (BadRule, lambda value: check_rule(space, value), ("in", "c", (0,))),
+        ):
+            with self.assertRaises(error):
+                function(value)
+            self.assert_untouched(space)
+
+    def test_a_returned_list_may_be_changed(self):
+        space = Space(VARIABLES)
+        first = all_assignments(space, ORDER)
+        kept = list(first)
+        first.reverse()
+        first.append((9, 9))
+        del first[1]
+        second = all_assignments(space, ORDER)
+        self.assertEqual(second, kept)
+        self.assertIsNot(second, all_assignments(space, ORDER))
+        second.clear()
+        self.assertEqual(all_assignments(space, ORDER), kept)
+        self.assert_untouched(space)
+
+
+class Interface(unittest.TestCase):
+    def test_each_name_is_defined_in_the_file_that_lists_it(self):
+        for module, names in LISTED.items():
+            for name in names:
+                with self.subTest(name=name):
+                    self.assertEqual(getattr(module, name).__module__, module.__name__)
+
+    def test_parameters_have_the_names_of_the_document(self):
+        for function, names in PARAMETERS.items():
+            with self.subTest(function=function):
+                found = inspect.signature(function).parameters.values()
+                self.assertEqual([parameter.name for parameter in found], names)
+                self.assertTrue(all(parameter.default is parameter.empty for parameter in found))
+
+    def test_methods_stand_in_the_class_itself(self):
+        for name in ("__init__", "__eq__", "__len__", "place_of", "values_of", "is_assignment"):
+            self.assertIn(name, vars(Space))
+        self.assertIn("__init__", vars(errors.NoSuchRule))
+        self.assertIn("MOST_VARIABLES", vars(Space))
+        self.assertIn("MOST_VALUES", vars(Space))
+
+    def test_arguments_may_be_passed_by_keyword(self):
+        space = Space(variables=VARIABLES)
+        self.assertIs(is_before(space=space, order=(), first=(0, 2), second=(1, 2)), True)
+        self.assertIs(satisfies(space=space, rule=SUM, assignment=(1, 5)), True)
+        self.assertEqual(worth_of(space=space, terms=SUM[1], assignment=(1, 5)), -3)
+        self.assertEqual(errors.NoSuchRule(number=7).number, 7)
+
+
+class Files(unittest.TestCase):
+    def sources(self):
+        folder = os.path.dirname(clashproved.__file__)
+        for name in sorted(os.listdir(folder)):
+            if name != "__pycache__":
+                self.assertTrue(name.endswith(".py"), name)
+                with open(os.path.join(folder, name), encoding="utf-8") as file:
+                    yield name, file.read()
+
+    def test_the_package_imports_only_itself_and_the_library_of_the_language(self):
+        # So there is no clock, no random source, and nothing that reads files.
+        allowed = r"from (clashproved\.[a-z]+|heapq|math|itertools|collections) import [A-Za-z_]+(, [A-Za-z_]+)*"
+        for name, text in self.sources():
+            for line in re.findall(r"^ *(?:import|from) .*$", text, re.MULTILINE):
+                self.assertRegex(line, f"^{allowed}$", name)
+            self.assertNotRegex(text, r"\b(open|__import__|print|input|eval|exec)\(", name)
+
+    def test_sizes_and_characters(self):
+        for name, text in self.sources():
+            lines = text.split("\n")
+            self.assertLess(len(lines), 400, name)
+            self.assertLessEqual(max(len(line) for line in lines), 120, name)
+            self.assertTrue(all(sign == "\n" or " " <= sign <= "~" for sign in text), name)
+
+
+if __name__ == "__main__":
+    unittest.main()
