@@ -112,14 +112,17 @@ def check_rule(space, rule):
 
 
 def _kind_of(value):
-    if type(value) != tuple or len(value) == 0 or type(value[0]) != str:
+    if type(value) != tuple or len(value) == 0:
         return None
-    return value[0]
+    kind = value[0]
+    if type(kind) != str:
+        return None
+    return kind
 
 
 def _is_simple_rule(space, value):
     kind = _kind_of(value)
-    if kind is None or kind not in FORMS:
+    if kind not in FORMS:
         return False
     has_form = FORMS[kind]
     return has_form(space, value[1:])
