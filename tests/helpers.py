@@ -1,6 +1,6 @@
 """Values of wrong kinds, ways to put them in the place of parts of a right value, and lists to compare with."""
 
-from itertools import product
+from itertools import permutations, product
 
 
 class Thorny:
@@ -39,3 +39,24 @@ def with_parts_replaced(value, others=()):
 def every_assignment(space):
     """All assignments of a space, ascending."""
     return list(product(*[values for _, values in space.variables]))
+
+
+def every_order(space):
+    """All orders of a space: of none, some and all variables, in all directions."""
+    found = []
+    for many in range(len(space) + 1):
+        for names in permutations(space.names, many):
+            found.extend(tuple(zip(names, directions)) for directions in product(("up", "down"), repeat=many))
+    return found
+
+
+def sorted_by(space, order):
+    """All assignments, sorted by keys in which values that come ahead are lesser."""
+    directions = dict(order)
+    names = list(directions) + [name for name in space.names if name not in directions]
+
+    def key(row):
+        named = dict(zip(space.names, row))
+        return [-named[name] if directions.get(name) == "down" else named[name] for name in names]
+
+    return sorted(every_assignment(space), key=key)

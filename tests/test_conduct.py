@@ -6,14 +6,20 @@ import re
 import unittest
 
 import clashproved
-from clashproved import errors, rules, spaces
+from clashproved import clauses, errors, narrowing, rules, search, spaces
+from clashproved.clauses import is_clause, resolvent, satisfies_clause, values_in
 from clashproved.errors import BadOrder, BadRule, BadSpace, NoSuchName
+from clashproved.narrowing import explanation, filtered, is_consistent, is_implied
 from clashproved.rules import check_rule, names_of, satisfies, worth_of
+from clashproved.search import solve
 from clashproved.spaces import Space, all_assignments, check_order, is_before, ordered_values, whole_order
 
 VARIABLES = (("a", (0, 1)), ("b", (2, 5)))
 ORDER = (("b", "down"),)
 SUM = ("sum", ((2, "a"), (-1, "b")), "<=", -3)
+SUM_TOO_GREAT = ("sum", ((1, "a"), (1, "b")), ">=", 6)
+IF = ("if", ("b", (5,)), ("table", ("a",), ((0,), (7,))))
+CLAUSE = (("a", (0,)), ("b", (2,)))
 CALLS = [
     (check_order, (ORDER,)),
     (whole_order, (ORDER,)),
@@ -28,6 +34,20 @@ CALLS = [
     (Space.values_of, ("b",)),
     (Space.is_assignment, ((0, 5),)),
     (Space.__len__, ()),
+    (is_clause, (CLAUSE,)),
+    (lambda space, clause, name: values_in(clause, name), (CLAUSE, "b")),
+    (satisfies_clause, (CLAUSE, (1, 5))),
+    (resolvent, (CLAUSE, (("a", (1,)), ("b", (2, 5))), "a")),
+    (is_consistent, (SUM, ((0, 1), (2,)))),
+    (is_consistent, (IF, ((1,), (5,)))),
+    (filtered, (SUM, ((0, 1), (2, 5)))),
+    (filtered, (IF, ((1,), (2, 5)))),
+    (explanation, (SUM, ((0, 1), (2,)))),
+    (explanation, (IF, ((1,), (5,)))),
+    (is_implied, (SUM, (("b", (5,)),))),
+    (is_implied, (IF, CLAUSE)),
+    (solve, ((SUM, IF), ORDER)),
+    (solve, ((SUM, IF, SUM_TOO_GREAT), ORDER)),
 ]
 PARAMETERS = {
     spaces.Space: ["variables"],
@@ -44,7 +64,17 @@ PARAMETERS = {
     rules.satisfies: ["space", "rule", "assignment"],
     rules.worth_of: ["space", "terms", "assignment"],
     errors.NoSuchRule: ["number"],
+    clauses.is_clause: ["space", "value"],
+    clauses.values_in: ["clause", "name"],
+    clauses.satisfies_clause: ["space", "clause", "assignment"],
+    clauses.resolvent: ["space", "first", "second", "name"],
+    narrowing.is_consistent: ["space", "rule", "domains"],
+    narrowing.is_implied: ["space", "rule", "clause"],
+    narrowing.filtered: ["space", "rule", "domains"],
+    narrowing.explanation: ["space", "rule", "domains"],
+    search.solve: ["space", "rules", "order"],
 }
+DEFAULTS = {search.solve: {"order": ()}}
 LISTED = {
     errors: [
         "ClashError", "NoSuchRule", "BadSpace", "BadOrder", "BadRule", "BadTerms", "NoSuchName", "NothingPushed",
@@ -52,6 +82,9 @@ LISTED = {
     ],
     spaces: ["Space", "check_order", "whole_order", "is_before", "ordered_values", "all_assignments"],
     rules: ["check_rule", "names_of", "satisfies", "worth_of"],
+    clauses: ["is_clause", "values_in", "satisfies_clause", "resolvent"],
+    narrowing: ["is_consistent", "is_implied", "filtered", "explanation"],
+    search: ["solve"],
 }
 
 
@@ -85,6 +118,9 @@ class Arguments(unittest.TestCase):
             (BadOrder, lambda value: all_assignments(space, value), (["b", "down"], {"a": "up"})),
             (BadRule, lambda value: check_rule(space, value), ["sum", [(1, "b"), (2, "a")], "=", 0]),
             (BadRule, lambda value: check_rule(space, value), ("or", [("b", [5, 2]), ("a", {1, 0})])),
+            (BadRule, lambda value: solve(space, value), [["in", "a", (0,)], SUM]),
+            (BadRule, lambda value: solve(space, value, [["b", "down"]]), (SUM, ("or", [("b", [5, 2])]))),
+            (BadOrder, lambda value: solve(space, (SUM,), value), [["b", "down"]]),
             (NoSuchName, space.place_of, ["b", "a"]),
             (NoSuchName, space.values_of, {"b": "a"}),
         ]
@@ -105,6 +141,8 @@ class Arguments(unittest.TestCase):
             (BadOrder, lambda value: check_order(space, value), (("c", "up"),)),
             (BadOrder, lambda value: all_assignments(space, value), (("a", "up"), ("a", "up"))),
             (BadRule, lambda value: check_rule(space, value), ("in", "c", (0,))),
+            (BadRule, lambda value: solve(space, value), (SUM, ("in", "c", (0,)))),
+            (BadOrder, lambda value: solve(space, (SUM,), value), (("c", "up"),)),
         ):
             with self.assertRaises(error):
                 function(value)
@@ -137,7 +175,9 @@ class Interface(unittest.TestCase):
             with self.subTest(function=function):
                 found = inspect.signature(function).parameters.values()
                 self.assertEqual([parameter.name for parameter in found], names)
-                self.assertTrue(all(parameter.default is parameter.empty for parameter in found))
+                self.assertTrue(all(parameter.kind is parameter.POSITIONAL_OR_KEYWORD for parameter in found))
+                defaults = {each.name: each.default for each in found if each.default is not each.empty}
+                self.assertEqual(defaults, DEFAULTS.get(function, {}))
 
     def test_methods_stand_in_the_class_itself(self):
         for name in ("__init__", "__eq__", "__len__", "place_of", "values_of", "is_assignment"):
@@ -151,6 +191,15 @@ class Interface(unittest.TestCase):
         self.assertIs(is_before(space=space, order=(), first=(0, 2), second=(1, 2)), True)
         self.assertIs(satisfies(space=space, rule=SUM, assignment=(1, 5)), True)
         self.assertEqual(worth_of(space=space, terms=SUM[1], assignment=(1, 5)), -3)
+        self.assertEqual(values_in(clause=CLAUSE, name="b"), (2,))
+        self.assertIs(satisfies_clause(space=space, clause=CLAUSE, assignment=(1, 5)), False)
+        self.assertEqual(resolvent(space=space, first=CLAUSE, second=CLAUSE, name="a"), CLAUSE)
+        self.assertIs(is_clause(space=space, value=CLAUSE), True)
+        self.assertIs(is_consistent(space=space, rule=SUM, domains=((1,), (2,))), False)
+        self.assertEqual(filtered(space=space, rule=SUM, domains=((0, 1), (2, 5))), ((0, 1), (5,)))
+        self.assertEqual(explanation(space=space, rule=SUM, domains=((1,), (2,))), (("b", (5,)),))
+        self.assertIs(is_implied(space=space, rule=SUM, clause=(("b", (5,)),)), True)
+        self.assertEqual(solve(space=space, rules=(SUM,), order=ORDER), ("solution", (0, 5)))
         self.assertEqual(errors.NoSuchRule(number=7).number, 7)
 
 

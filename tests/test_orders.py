@@ -1,11 +1,11 @@
 """Point 5: orders of the assignments of a space."""
 
 import unittest
-from itertools import combinations, permutations, product
+from itertools import combinations
 
 from clashproved.errors import BadOrder, NoSuchName
 from clashproved.spaces import Space, all_assignments, check_order, is_before, ordered_values, whole_order
-from tests.helpers import every_assignment, with_parts_replaced
+from tests.helpers import every_order, sorted_by, with_parts_replaced
 
 SPACE = Space((("a", (0, 1)), ("b", (2, 5, 9)), ("c", (3, 4))))
 BAD = {
@@ -50,27 +50,6 @@ BAD = {
     "True": True,
     "False": False,
 }
-
-
-def every_order(space):
-    """All orders of a space: of none, some and all variables, in all directions."""
-    found = []
-    for many in range(len(space) + 1):
-        for names in permutations(space.names, many):
-            found.extend(tuple(zip(names, directions)) for directions in product(("up", "down"), repeat=many))
-    return found
-
-
-def sorted_by(space, order):
-    """All assignments, sorted by keys in which values that come ahead are lesser."""
-    directions = dict(order)
-    names = list(directions) + [name for name in space.names if name not in directions]
-
-    def key(row):
-        named = dict(zip(space.names, row))
-        return [-named[name] if directions.get(name) == "down" else named[name] for name in names]
-
-    return sorted(every_assignment(space), key=key)
 
 
 class CheckingOrders(unittest.TestCase):
