@@ -1,7 +1,7 @@
 """Rules over the variables of a space: which values are rules, and what satisfies them."""
 
 from clashproved.errors import BadRule
-from clashproved.shapes import GREATEST_VALUE, are_values, is_number, is_tuple, none_twice
+from clashproved.shapes import GREATEST_VALUE, are_values, is_number, is_tuple, kind_of, none_twice
 
 MOST_NAMES = 6
 MOST_ROWS = 20
@@ -111,17 +111,14 @@ def check_rule(space, rule):
         raise BadRule("this is no rule of the space")
 
 
-def _kind_of(value):
-    if type(value) != tuple or len(value) == 0:
-        return None
-    kind = value[0]
-    if type(kind) != str:
-        return None
-    return kind
+def check_rules(space, rules):
+    """Raise BadRule if one of some values is no rule of the space."""
+    for rule in rules:
+        check_rule(space, rule)
 
 
 def _is_simple_rule(space, value):
-    kind = _kind_of(value)
+    kind = kind_of(value)
     if kind not in FORMS:
         return False
     has_form = FORMS[kind]
@@ -129,7 +126,7 @@ def _is_simple_rule(space, value):
 
 
 def _is_conditional(space, value):
-    if _kind_of(value) != "if" or len(value) != 3:
+    if kind_of(value) != "if" or len(value) != 3:
         return False
     return is_literal(space, value[1]) and _is_simple_rule(space, value[2])
 
@@ -234,3 +231,11 @@ def satisfies(space, rule, assignment):
         return not satisfies_literal(space, rule[1], assignment) or satisfies(space, rule[2], assignment)
     meaning = MEANINGS[rule[0]]
     return meaning(space, rule[1:], assignment)
+
+
+def satisfies_all(space, rules, assignment):
+    """Tell whether an assignment satisfies all of the rules."""
+    for rule in rules:
+        if not satisfies(space, rule, assignment):
+            return False
+    return True

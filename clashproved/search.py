@@ -2,15 +2,19 @@
 
 from clashproved.clauses import resolvent, values_in
 from clashproved.narrowing import explanation, filtered, with_domain
-from clashproved.rules import check_rule, names_of
+from clashproved.rules import check_rules, names_of
 from clashproved.spaces import check_order, ordered_values, whole_order
 
 
 def solve(space, rules, order=()):
     """("solution", assignment) with the first solution by the order, or ("refuted", steps) with a refutation."""
-    for rule in rules:
-        check_rule(space, rule)
+    check_rules(space, rules)
     check_order(space, order)
+    return decide(space, rules, order)
+
+
+def decide(space, rules, order):
+    """What solve tells, of rules and an order that are known to be such."""
     search = Search(space, rules, whole_order(space, order))
     clash = search.explore(tuple([values for _, values in space.variables]), list(range(len(rules))))
     if clash is None:

@@ -14,6 +14,16 @@ def is_tuple(value, least, most):
     return type(value) == tuple and least <= len(value) <= most
 
 
+def kind_of(value):
+    """The text that stands ahead in a tuple, or None for everything else."""
+    if type(value) != tuple or len(value) == 0:
+        return None
+    kind = value[0]
+    if type(kind) != str:
+        return None
+    return kind
+
+
 def are_values(value):
     """Tell whether a value is a tuple of at least one value, strictly ascending."""
     # No longer tuple can be strictly ascending.

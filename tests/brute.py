@@ -6,7 +6,7 @@ Sets of assignments are numbers here: bit k stands for the assignment k, ascendi
 from itertools import chain, combinations, product
 
 from clashproved.rules import satisfies
-from tests.helpers import every_assignment
+from tests.helpers import every_assignment, sorted_by
 
 
 def subsets(values):
@@ -45,6 +45,7 @@ class Brute:
         self.space = space
         self.rows = every_assignment(space)
         self.all = (1 << len(self.rows)) - 1
+        self.known = {}
         self.having = {}
         for place, (name, values) in enumerate(space.variables):
             for value in values:
@@ -55,7 +56,33 @@ class Brute:
         return sum(1 << at for at, answer in enumerate(answers) if answer)
 
     def of_rule(self, rule):
-        return self.bits(satisfies(self.space, rule, row) for row in self.rows)
+        if rule not in self.known:
+            self.known[rule] = self.bits(satisfies(self.space, rule, row) for row in self.rows)
+        return self.known[rule]
+
+    def of_all(self, rules):
+        """The solutions of rules."""
+        found = self.all
+        for rule in rules:
+            found &= self.of_rule(rule)
+        return found
+
+    def solutions(self, rules, order=()):
+        """The list of all solutions, by an order."""
+        bits = self.of_all(rules)
+        number_of = {row: number for number, row in enumerate(self.rows)}
+        return [row for row in sorted_by(self.space, order) if bits >> number_of[row] & 1]
+
+    def core(self, rules, fixed=()):
+        """The indices that point 18 tells, found by leaving out one rule after the other; None with a solution."""
+        kept = list(range(len(rules)))
+        if self.of_all(rules + fixed):
+            return None
+        for index in range(len(rules)):
+            others = [at for at in kept if at != index]
+            if not self.of_all(tuple(rules[at] for at in others) + fixed):
+                kept = others
+        return tuple(kept)
 
     def of_values(self, name, values):
         found = 0
@@ -89,7 +116,10 @@ class Brute:
         if type(value) is not tuple:
             return False
         places = []
-        for name, values in value:
+        for literal in value:
+            if type(literal) is not tuple or len(literal) != 2:
+                return False
+            name, values = literal
             if name not in self.space.names or not self.are_values(name, values):
                 return False
             places.append(self.space.names.index(name))

@@ -36,6 +36,17 @@ def with_parts_replaced(value, others=()):
                 yield value[:at] + (other,) + value[at + 1:]
 
 
+def with_other_lengths(value):
+    """Copies of nested tuples, one of them, at any depth, with a part less or a part more."""
+    if isinstance(value, tuple):
+        yield value + (None,)
+        for at, part in enumerate(value):
+            yield value[:at] + value[at + 1:]
+            yield value[:at] + (part,) + value[at:]
+            for other in with_other_lengths(part):
+                yield value[:at] + (other,) + value[at + 1:]
+
+
 def every_assignment(space):
     """All assignments of a space, ascending."""
     return list(product(*[values for _, values in space.variables]))

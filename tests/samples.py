@@ -1,12 +1,46 @@
-"""Spaces, and rules of all nine kinds over them, to be tried by several tests."""
+"""Spaces, rules of all nine kinds over them, orders, terms and a refutation, to be tried by several tests."""
+
+import random
 
 from clashproved.spaces import Space
+
+NAMES = "abcdef"
+PAIR = Space((("a", (0, 1)), ("b", (0, 1))))
+DIFFERENT, EQUAL = ("different", ("a", "b")), ("equal", ("a", "b"))
+# The refutation of these two rules that point 13 tells.
+EXAMPLE = (
+    ("rule", 1, (("a", (1,)), ("b", (0,)))),
+    ("rule", 0, (("a", (1,)), ("b", (1,)))),
+    ("resolve", 0, (("b", 1),), (("a", (1,)),)),
+    ("rule", 1, (("a", (0,)), ("b", (1,)))),
+    ("rule", 0, (("a", (0,)), ("b", (0,)))),
+    ("resolve", 3, (("b", 4), ("a", 2)), ()),
+)
 
 # The order of the space is not that of the letters, and the values of no two variables are the same.
 SPACE = Space((("c", (0, 1, 2, 3)), ("a", (0, 1)), ("b", (1, 2, 15))))
 SIX = Space((
     ("d", (0, 1, 2)), ("a", (1, 2, 3)), ("f", (0, 3, 15)), ("b", (0, 1, 2, 4)), ("e", (2, 3)), ("c", (0, 1, 5)),
 ))
+ORDERS = [
+    (), (("b", "down"),), (("a", "up"),), (("a", "down"), ("c", "down")), (("b", "up"), ("a", "down")),
+    (("c", "down"), ("b", "up"), ("a", "down")), (("a", "up"), ("b", "down"), ("c", "up")),
+]
+TERMS = [
+    ((1, "a"),), ((-1, "c"),), ((2, "c"), (-3, "b")), ((1, "b"), (1, "a"), (1, "c")), ((-9, "a"), (5, "c"), (9, "b")),
+]
+SIX_TERMS = [((1, "f"), (-2, "b"), (3, "c")), tuple(zip((2, 4, -6, 8, -2, 9), "abcdef")), ((-1, "e"),)]
+DIRECTIONS = ("least", "greatest")
+# What is no order and no rule of the space of two variables.
+BAD_ORDERS = [
+    (("z", "up"),), (("a", "left"),), (("a", "up"), ("a", "down")), ("a", "up"), [("a", "up")], None, 5, "up",
+    ((("a",), "up"),), (("a", True),), {},
+]
+BAD_RULES = [
+    ("in", "z", (0,)), ("in", "a", ()), ("in", "a", (1, 0)), ("in", "a", (True,)), ("different", ("a",)),
+    ("sum", ((0, "a"),), "=", 1), ("none", "a"), (), [], ["in", "a", (0,)], "in", 7, None, True,
+    ("if", ("a", (0,)), ("if", ("a", (0,)), ("in", "a", (0,)))), ("or", (("a", (0,)), ("a", (1,)))),
+]
 ALL_VALUES = tuple(range(16))
 RELATIONS = ("=", "<=", ">=", "!=")
 
@@ -89,3 +123,17 @@ SIX_SIMPLE = [
     ("or", (("a", (1, 2)), ("c", (5,)), ("b", (0, 1)), ("f", (3,)), ("e", (2,)), ("d", (1,)))),
 ]
 SIX_RULES = SIX_SIMPLE + [("if", literal, rule) for rule in SIX_SIMPLE for literal in (("b", (0, 4)), ("c", (0, 7)))]
+
+
+def grid(many, values):
+    """A space of some variables with the same values."""
+    return Space(tuple((name, values) for name in NAMES[:many]))
+
+
+def drawn(space, rules, many, most):
+    """Rows of rules and orders, always the same ones."""
+    draws = random.Random(13)
+    for _ in range(many):
+        chosen = tuple(rules[draws.randrange(len(rules))] for _ in range(draws.randrange(most + 1)))
+        names = sorted(space.names, key=lambda name: draws.random())[:draws.randrange(len(space) + 1)]
+        yield chosen, tuple((name, ("up", "down")[draws.randrange(2)]) for name in names)

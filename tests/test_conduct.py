@@ -1,4 +1,4 @@
-"""Point 2 and the interface: arguments stay as they are, lists are new, names stand where the document lists them."""
+"""Points 1 to 3 and the interface: arguments are not changed, lists are new, names stand where they are listed."""
 
 import inspect
 import os
@@ -6,10 +6,13 @@ import re
 import unittest
 
 import clashproved
-from clashproved import clauses, errors, narrowing, rules, search, spaces
+from clashproved import clauses, cores, desks, errors, narrowing, papers, rules, search, spaces
 from clashproved.clauses import is_clause, resolvent, satisfies_clause, values_in
-from clashproved.errors import BadOrder, BadRule, BadSpace, NoSuchName
+from clashproved.cores import best, least_core, possible_values, solutions, why_not
+from clashproved.desks import Desk
+from clashproved.errors import BadOrder, BadRule, BadSpace, BadTerms, NoSuchName
 from clashproved.narrowing import explanation, filtered, is_consistent, is_implied
+from clashproved.papers import explain_best, explain_first, judge, judge_best, judge_first, paper_of
 from clashproved.rules import check_rule, names_of, satisfies, worth_of
 from clashproved.search import solve
 from clashproved.spaces import Space, all_assignments, check_order, is_before, ordered_values, whole_order
@@ -20,6 +23,24 @@ SUM = ("sum", ((2, "a"), (-1, "b")), "<=", -3)
 SUM_TOO_GREAT = ("sum", ((1, "a"), (1, "b")), ">=", 6)
 IF = ("if", ("b", (5,)), ("table", ("a",), ((0,), (7,))))
 CLAUSE = (("a", (0,)), ("b", (2,)))
+TERMS = ((1, "a"), (-2, "b"))
+RULES = (SUM, IF)
+CLASH = (SUM, IF, SUM_TOO_GREAT)
+NEVER = (("rule", 0, ()),)
+
+
+def on_desk(name):
+    """A call of a method of a desk with some rules."""
+    def call(space, *arguments):
+        desk = Desk(space)
+        desk.add(SUM)
+        desk.push()
+        desk.add(IF)
+        return getattr(desk, name)(*arguments)
+
+    return call
+
+
 CALLS = [
     (check_order, (ORDER,)),
     (whole_order, (ORDER,)),
@@ -46,8 +67,33 @@ CALLS = [
     (explanation, (IF, ((1,), (5,)))),
     (is_implied, (SUM, (("b", (5,)),))),
     (is_implied, (IF, CLAUSE)),
-    (solve, ((SUM, IF), ORDER)),
-    (solve, ((SUM, IF, SUM_TOO_GREAT), ORDER)),
+    (solve, (RULES, ORDER)),
+    (solve, (CLASH, ORDER)),
+    (judge, (RULES, ("solution", (0, 5)))),
+    (judge, (CLASH, ["refuted", [NEVER, {"rule": 0}]])),
+    (judge, (CLASH, ("refuted", (("rule", 0, [("a", [0])]), ["resolve", 0, [], ()])))),
+    (judge_first, (RULES, ORDER, ("first", [0, 5], [NEVER]))),
+    (judge_first, (RULES, ORDER, ("first", (0, 5), [NEVER]))),
+    (judge_best, (RULES, TERMS, "least", ("best", (0, 5), [list(NEVER[0])]))),
+    (judge_best, (RULES, TERMS, "greatest", ("best", (0, 5), NEVER))),
+    (paper_of, (CLASH,)),
+    (explain_first, (RULES, (("a", "down"),))),
+    (explain_best, (RULES, TERMS, "greatest")),
+    (least_core, (CLASH,)),
+    (why_not, (RULES, "a", 1)),
+    (possible_values, (RULES,)),
+    (solutions, (RULES, ORDER)),
+    (best, (RULES, TERMS, "least", ORDER)),
+    (on_desk("add"), (SUM_TOO_GREAT,)),
+    (on_desk("remove"), (0,)),
+    (on_desk("ask"), ((("a", (0,)), ("b", (2, 5, 9))), ORDER)),
+    (on_desk("ask"), ((("a", (1,)), ("b", (2,))), ORDER)),
+    (on_desk("best"), (TERMS, "least", ORDER)),
+    (on_desk("foresee"), ((SUM_TOO_GREAT, SUM),)),
+    (on_desk("core"), ()),
+    (on_desk("possible"), ()),
+    (on_desk("pop"), ()),
+    (on_desk("undo"), ()),
 ]
 PARAMETERS = {
     spaces.Space: ["variables"],
@@ -73,8 +119,38 @@ PARAMETERS = {
     narrowing.filtered: ["space", "rule", "domains"],
     narrowing.explanation: ["space", "rule", "domains"],
     search.solve: ["space", "rules", "order"],
+    papers.judge: ["space", "rules", "paper"],
+    papers.judge_first: ["space", "rules", "order", "paper"],
+    papers.judge_best: ["space", "rules", "terms", "direction", "paper"],
+    papers.paper_of: ["space", "rules"],
+    papers.explain_first: ["space", "rules", "order"],
+    papers.explain_best: ["space", "rules", "terms", "direction"],
+    cores.least_core: ["space", "rules"],
+    cores.why_not: ["space", "rules", "name", "value"],
+    cores.possible_values: ["space", "rules"],
+    cores.solutions: ["space", "rules", "order", "most"],
+    cores.best: ["space", "rules", "terms", "direction", "order"],
+    desks.Desk: ["space"],
+    desks.Desk.add: ["self", "rule"],
+    desks.Desk.remove: ["self", "number"],
+    desks.Desk.push: ["self"],
+    desks.Desk.pop: ["self"],
+    desks.Desk.undo: ["self"],
+    desks.Desk.ask: ["self", "assumptions", "order"],
+    desks.Desk.core: ["self"],
+    desks.Desk.possible: ["self"],
+    desks.Desk.best: ["self", "terms", "direction", "order"],
+    desks.Desk.tried: ["self"],
+    desks.Desk.foresee: ["self", "rules"],
 }
-DEFAULTS = {search.solve: {"order": ()}}
+DEFAULTS = {
+    search.solve: {"order": ()},
+    cores.solutions: {"order": (), "most": 100},
+    cores.best: {"order": ()},
+    desks.Desk.ask: {"assumptions": (), "order": ()},
+    desks.Desk.best: {"order": ()},
+}
+BY_KEYWORD = {cores.solutions: ["most"]}
 LISTED = {
     errors: [
         "ClashError", "NoSuchRule", "BadSpace", "BadOrder", "BadRule", "BadTerms", "NoSuchName", "NothingPushed",
@@ -85,6 +161,9 @@ LISTED = {
     clauses: ["is_clause", "values_in", "satisfies_clause", "resolvent"],
     narrowing: ["is_consistent", "is_implied", "filtered", "explanation"],
     search: ["solve"],
+    papers: ["judge", "judge_first", "judge_best", "paper_of", "explain_first", "explain_best"],
+    cores: ["least_core", "why_not", "possible_values", "solutions", "best"],
+    desks: ["Desk"],
 }
 
 
@@ -121,6 +200,15 @@ class Arguments(unittest.TestCase):
             (BadRule, lambda value: solve(space, value), [["in", "a", (0,)], SUM]),
             (BadRule, lambda value: solve(space, value, [["b", "down"]]), (SUM, ("or", [("b", [5, 2])]))),
             (BadOrder, lambda value: solve(space, (SUM,), value), [["b", "down"]]),
+            (BadOrder, lambda value: judge_first(space, (SUM,), value, None), [["b", "down"]]),
+            (BadOrder, lambda value: explain_first(space, (SUM,), value), (["b", "down"], {"a": "up"})),
+            (BadOrder, lambda value: solutions(space, (SUM,), value), [["b", "down"]]),
+            (BadOrder, lambda value: best(space, (SUM,), TERMS, "least", value), [["b", "down"]]),
+            (BadRule, Desk(space).add, ["or", [("b", [5, 2]), ("a", {1, 0})]]),
+            (BadRule, Desk(space).ask, (["b", (5,)],)),
+            (BadRule, Desk(space).foresee, (SUM, ["in", "b", [5, 2]])),
+            (BadTerms, lambda value: Desk(space).best(value, "least"), [[2, "b"], (1, "a")]),
+            (NoSuchName, lambda value: why_not(space, (SUM,), value, 0), ["b", "a"]),
             (NoSuchName, space.place_of, ["b", "a"]),
             (NoSuchName, space.values_of, {"b": "a"}),
         ]
@@ -150,17 +238,18 @@ class Arguments(unittest.TestCase):
 
     def test_a_returned_list_may_be_changed(self):
         space = Space(VARIABLES)
-        first = all_assignments(space, ORDER)
-        kept = list(first)
-        first.reverse()
-        first.append((9, 9))
-        del first[1]
-        second = all_assignments(space, ORDER)
-        self.assertEqual(second, kept)
-        self.assertIsNot(second, all_assignments(space, ORDER))
-        second.clear()
-        self.assertEqual(all_assignments(space, ORDER), kept)
-        self.assert_untouched(space)
+        for listed in (lambda: all_assignments(space, ORDER), lambda: solutions(space, (), ORDER)):
+            first = listed()
+            kept = list(first)
+            first.reverse()
+            first.append((9, 9))
+            del first[1]
+            second = listed()
+            self.assertEqual(second, kept)
+            self.assertIsNot(second, listed())
+            second.clear()
+            self.assertEqual(listed(), kept)
+            self.assert_untouched(space)
 
 
 class Interface(unittest.TestCase):
@@ -175,7 +264,11 @@ class Interface(unittest.TestCase):
             with self.subTest(function=function):
                 found = inspect.signature(function).parameters.values()
                 self.assertEqual([parameter.name for parameter in found], names)
-                self.assertTrue(all(parameter.kind is parameter.POSITIONAL_OR_KEYWORD for parameter in found))
+                by_keyword = BY_KEYWORD.get(function, [])
+                for parameter in found:
+                    is_bare = parameter.name in by_keyword
+                    kind = parameter.KEYWORD_ONLY if is_bare else parameter.POSITIONAL_OR_KEYWORD
+                    self.assertIs(parameter.kind, kind)
                 defaults = {each.name: each.default for each in found if each.default is not each.empty}
                 self.assertEqual(defaults, DEFAULTS.get(function, {}))
 
@@ -185,6 +278,12 @@ class Interface(unittest.TestCase):
         self.assertIn("__init__", vars(errors.NoSuchRule))
         self.assertIn("MOST_VARIABLES", vars(Space))
         self.assertIn("MOST_VALUES", vars(Space))
+        for name in (
+            "__init__", "__len__", "__iter__", "add", "remove", "push", "pop", "undo", "ask", "core", "possible",
+            "best", "tried", "foresee", "MOST_RULES", "MOST_CHANGES",
+        ):
+            self.assertIn(name, vars(Desk))
+        self.assertIsInstance(vars(Desk)["change_count"], property)
 
     def test_arguments_may_be_passed_by_keyword(self):
         space = Space(variables=VARIABLES)
@@ -201,6 +300,20 @@ class Interface(unittest.TestCase):
         self.assertIs(is_implied(space=space, rule=SUM, clause=(("b", (5,)),)), True)
         self.assertEqual(solve(space=space, rules=(SUM,), order=ORDER), ("solution", (0, 5)))
         self.assertEqual(errors.NoSuchRule(number=7).number, 7)
+
+    def test_papers_and_cores_by_keyword(self):
+        space = Space(VARIABLES)
+        self.assertIs(judge(space=space, rules=RULES, paper=("solution", (0, 5))), True)
+        self.assertEqual(paper_of(space=space, rules=RULES), ("solution", (0, 5)))
+        paper = explain_first(space=space, rules=RULES, order=ORDER)
+        self.assertIs(judge_first(space=space, rules=RULES, order=ORDER, paper=paper), True)
+        paper = explain_best(space=space, rules=RULES, terms=TERMS, direction="least")
+        self.assertIs(judge_best(space=space, rules=RULES, terms=TERMS, direction="least", paper=paper), True)
+        self.assertEqual(least_core(space=space, rules=CLASH), (1, 2))
+        self.assertEqual(why_not(space=space, rules=RULES, name="a", value=1), (0, 1))
+        self.assertEqual(possible_values(space=space, rules=RULES), ((0,), (5,)))
+        self.assertEqual(solutions(space=space, rules=RULES, order=ORDER, most=5), [(0, 5)])
+        self.assertEqual(best(space=space, rules=RULES, terms=TERMS, direction="least", order=ORDER), ((0, 5), -10))
 
 
 class Files(unittest.TestCase):

@@ -1,6 +1,5 @@
 """Points 11 to 13: the first solution by an order, or a refutation, of which each step is looked at."""
 
-import random
 import unittest
 
 from clashproved.clauses import is_clause, resolvent
@@ -10,20 +9,9 @@ from clashproved.search import solve
 from clashproved.spaces import Space, all_assignments
 from tests.brute import Brute
 from tests.helpers import every_assignment, every_order, sorted_by, strange_values
-from tests.samples import RULES, SIX, SIX_RULES, SPACE
-
-PAIR = Space((("a", (0, 1)), ("b", (0, 1))))
-DIFFERENT, EQUAL = ("different", ("a", "b")), ("equal", ("a", "b"))
-ORDERS = [
-    (), (("b", "down"),), (("a", "up"),), (("a", "down"), ("c", "down")), (("b", "up"), ("a", "down")),
-    (("c", "down"), ("b", "up"), ("a", "down")), (("a", "up"), ("b", "down"), ("c", "up")),
-]
-NAMES = "abcdef"
-
-
-def grid(many, values):
-    """A space of some variables with the same values."""
-    return Space(tuple((name, values) for name in NAMES[:many]))
+from tests.samples import (
+    BAD_ORDERS, BAD_RULES, DIFFERENT, EQUAL, EXAMPLE, NAMES, ORDERS, PAIR, RULES, SIX, SIX_RULES, SPACE, drawn, grid,
+)
 
 
 def pairs_differ(many):
@@ -41,10 +29,7 @@ class SearchTests(unittest.TestCase):
     def assert_solved(self, brute, rules, order=()):
         """Compare with going through all assignments by the order, and look at each step of a refutation."""
         found = solve(brute.space, rules, order)
-        rows = brute.all
-        for rule in rules:
-            rows &= brute.of_rule(rule)
-        first = brute.first(rows, sorted_by(brute.space, order))
+        first = brute.first(brute.of_all(rules), sorted_by(brute.space, order))
         if first is not None:
             self.assertEqual(found, ("solution", first), (rules, order))
             self.assertIs(brute.space.is_assignment(found[1]), True)
@@ -236,17 +221,9 @@ class Refutations(SearchTests):
 
 
 class DrawnRules(SearchTests):
-    def drawn(self, space, rules, many, most):
-        """Rows of rules and orders, always the same ones."""
-        draws = random.Random(13)
-        for _ in range(many):
-            chosen = tuple(rules[draws.randrange(len(rules))] for _ in range(draws.randrange(most + 1)))
-            names = sorted(space.names, key=lambda name: draws.random())[:draws.randrange(len(space) + 1)]
-            yield chosen, tuple((name, ("up", "down")[draws.randrange(2)]) for name in names)
-
     def assert_drawn(self, space, rules, many, most):
         brute = Brute(space)
-        found = [self.assert_solved(brute, *row) for row in self.drawn(space, rules, many, most)]
+        found = [self.assert_solved(brute, *row) for row in drawn(space, rules, many, most)]
         for kind in ("solution", "refuted"):
             self.assertGreater(found.count(kind), many // 10)
 
@@ -258,18 +235,8 @@ class DrawnRules(SearchTests):
 
 
 class Errors(unittest.TestCase):
-    BAD_ORDERS = [
-        (("z", "up"),), (("a", "left"),), (("a", "up"), ("a", "down")), ("a", "up"), [("a", "up")], None, 5, "up",
-        ((("a",), "up"),), (("a", True),), {},
-    ]
-    BAD_RULES = [
-        ("in", "z", (0,)), ("in", "a", ()), ("in", "a", (1, 0)), ("in", "a", (True,)), ("different", ("a",)),
-        ("sum", ((0, "a"),), "=", 1), ("none", "a"), (), [], ["in", "a", (0,)], "in", 7, None, True,
-        ("if", ("a", (0,)), ("if", ("a", (0,)), ("in", "a", (0,)))), ("or", (("a", (0,)), ("a", (1,)))),
-    ]
-
     def test_something_that_is_no_rule(self):
-        for bad in self.BAD_RULES + strange_values():
+        for bad in BAD_RULES + strange_values():
             for rules in ((bad,), (DIFFERENT, bad), (bad, DIFFERENT), (("or", ()), bad), (DIFFERENT, EQUAL, bad)):
                 with self.assertRaises(BadRule, msg=repr(bad)):
                     solve(PAIR, rules)
@@ -277,14 +244,14 @@ class Errors(unittest.TestCase):
                     solve(PAIR, rules, (("b", "down"),))
 
     def test_something_that_is_no_order(self):
-        for bad in self.BAD_ORDERS + strange_values():
+        for bad in BAD_ORDERS + strange_values():
             for rules in ((), (DIFFERENT,), (DIFFERENT, EQUAL), (("or", ()),)):
                 with self.assertRaises(BadOrder, msg=repr(bad)):
                     solve(PAIR, rules, bad)
 
     def test_no_rule_and_no_order_at_once(self):
-        for rule in self.BAD_RULES:
-            for order in self.BAD_ORDERS:
+        for rule in BAD_RULES:
+            for order in BAD_ORDERS:
                 for rules in ((rule,), (DIFFERENT, rule), (("or", ()), rule)):
                     with self.assertRaises(BadRule):
                         solve(PAIR, rules, order)
@@ -304,15 +271,7 @@ class Errors(unittest.TestCase):
 
 
 class TheExampleOfPoint13(unittest.TestCase):
-    RULES = (DIFFERENT, EQUAL)
-    STEPS = (
-        ("rule", 1, (("a", (1,)), ("b", (0,)))),
-        ("rule", 0, (("a", (1,)), ("b", (1,)))),
-        ("resolve", 0, (("b", 1),), (("a", (1,)),)),
-        ("rule", 1, (("a", (0,)), ("b", (1,)))),
-        ("rule", 0, (("a", (0,)), ("b", (0,)))),
-        ("resolve", 3, (("b", 4), ("a", 2)), ()),
-    )
+    RULES, STEPS = (DIFFERENT, EQUAL), EXAMPLE
 
     def test_its_steps_are_a_refutation(self):
         self.assertIsNone(Brute(PAIR).fault_of(self.RULES, self.STEPS))
